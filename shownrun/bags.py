@@ -1,4 +1,6 @@
-"""Bags of tuples of worths, without order."""
+"""Bags of tuples of worths, without order, and the lots of two bags."""
+
+from shownrun.lots import check_counted
 
 
 class Bag:
@@ -43,3 +45,29 @@ class Bag:
 
     def __repr__(self):
         return f"Bag({len(self._members)} items)"
+
+
+def in_merge_lot(one, other, worth, *, p):
+    """Whether merging by a worth makes two bags alike that are not."""
+    if one == other:
+        return False
+    return one.merged(worth, p=p) == other.merged(worth, p=p)
+
+
+def merge_lot(one, other, *, p):
+    """The ascending tuple of the worths in the merge lot of two bags."""
+    check_counted(p)
+    return tuple([worth for worth in range(p) if in_merge_lot(one, other, worth, p=p)])
+
+
+def in_product_lot(one, other, worth, *, p):
+    """Whether two bags that are not alike have equal products at a worth."""
+    if one == other:
+        return False
+    return one.product(worth, p=p) == other.product(worth, p=p)
+
+
+def product_lot(one, other, *, p):
+    """The ascending tuple of the worths in the product lot of two bags."""
+    check_counted(p)
+    return tuple([worth for worth in range(p) if in_product_lot(one, other, worth, p=p)])

@@ -37,7 +37,7 @@ def _worth_at(coefficients, x, p):
     return total
 
 
-def _with_roots(roots, p):
+def with_roots(roots, p):
     """The coefficients of the product of X - root over all roots."""
     made = [1]
     for root in roots:
@@ -65,7 +65,7 @@ class Poly:
     def through(points, *, p):
         """The polynomial of a degree below the number of points that goes through them."""
         roots = [x % p for x, _ in points]
-        product = _with_roots(roots, p)
+        product = with_roots(roots, p)
         total = [0] * len(roots)
         for root, (_, worth) in zip(roots, points):
             part = _without_root(product, root, p)
