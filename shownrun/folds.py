@@ -39,7 +39,6 @@ def even_odd(code, word):
 
 def _checked_half(code, e):
     """The half of a paired code, for an e that fits the half."""
-    _check_paired(code)
     half = code.half()
     check_e(half, e)
     return half
@@ -84,7 +83,6 @@ def _codes_of(code, count):
     """The codes of so many words that are folded one into another."""
     codes = [code]
     for _ in range(count - 1):
-        _check_paired(codes[-1])
         codes.append(codes[-1].half())
     return codes
 

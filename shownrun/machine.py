@@ -16,7 +16,7 @@ class Doing:
         self.line = line
         self._pc, self._fp, self._ap = registers
         self.p = p
-        self.written = {}
+        self.gained = {}
         self.taken = []
         self._cells = cells
         self._secrets = secrets
@@ -33,7 +33,7 @@ class Doing:
     def cell_worth(self, which):
         """The worth of d, x or y, None if it has none."""
         address = self.addresses[which]
-        return self.written.get(address, self._cells.get(address))
+        return self.gained.get(address, self._cells.get(address))
 
     def cell_worths(self):
         """The worths of d, x and y."""
@@ -42,7 +42,7 @@ class Doing:
     def give(self, which, worth):
         """Gives d, x or y a worth if it has none."""
         if self.cell_worth(which) is None:
-            self.written[self.addresses[which]] = worth % self.p
+            self.gained[self.addresses[which]] = worth % self.p
 
     def take(self, which):
         """Gives d, x or y the next secret if it has no worth: the one told for it, if there are such."""
@@ -197,7 +197,7 @@ class Machine:
         doing.fill()
         if not doing.holds():
             raise Broken(self.pc, "cell")
-        self._cells.update(doing.written)
+        self._cells.update(doing.gained)
         self._registers = doing.next_registers()
         self._used = self._used + len(doing.taken)
         self._steps = self._steps + 1

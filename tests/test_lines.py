@@ -39,6 +39,37 @@ class LineTests(unittest.TestCase):
                              (7,) + flags + (1, 255, 43, -9999999999 % 257))
         self.assertEqual(STOP.fields(at=3, p=193), (3, 0, 0, 0, 0, 0, 0, 0, 0, 1, 0, 0, 0, 0))
 
+    def test_both_ends_of_each_range(self):
+        for at, field in enumerate(("a", "b", "c", "imm")):
+            for value in (9999999999, -9999999999, 0):
+                values = [0] * at + [value]
+                line = Line("jz", *values)
+                self.assertEqual([line.a, line.b, line.c, line.imm][at], value)
+                self.assertEqual(Line(op="jz", **{field: value}), line)
+                self.assertEqual(str(line), "jz " + " ".join(str(n) for n in values + [0] * (3 - at)))
+            for value in (10000000000, -10000000000, 999999999999):
+                with self.assertRaises(BadLine) as held:
+                    Line("jz", **{field: value})
+                self.assertEqual(held.exception.field, field)
+
+    def test_the_first_wrong_field_counts(self):
+        for first in range(5):
+            for second in range(first, 5):
+                values = ["add", 1, 2, 3, 4]
+                values[second] = None
+                values[first] = [] if first else "none"
+                with self.assertRaises(BadLine) as held:
+                    Line(*values)
+                self.assertEqual(held.exception.field, ("op", "a", "b", "c", "imm")[first])
+
+    def test_fields_of_all_primes(self):
+        for p in (193, 797, 2013265921, 9999999967):
+            for numbers_of in ([0, 1, -1, p], [p - 1, p + 1, -p, 9999999999], [-9999999999, 2 * p, 3, 4]):
+                passed = [n if abs(n) <= 9999999999 else 7 for n in numbers_of]
+                for at in (0, 5, 119, p, -1):
+                    told = (at % p,) + (0,) * 4 + (1,) + (0,) * 4 + tuple(n % p for n in passed)
+                    self.assertEqual(Line("jz", *passed).fields(at, p=p), told)
+
     def test_equal(self):
         values = [1, 2, 3, 4]
         self.assertTrue(Line("add", *values) == Line("add", *values))
@@ -101,6 +132,17 @@ class ProgramTests(unittest.TestCase):
                     told = told * (draws.w - draws.mix(line.fields(at, p=p))) ** counts[at] % p
                 self.assertEqual(program.closing(counts, draws), told)
                 self.assertEqual(program.closing(draws=draws, counts=tuple(counts)), told)
+
+    def test_great_counts(self):
+        program = Program([Line("set", 0, 0, 0, -3), STOP])
+        draws = Draws(numbers(7, 16), p=257)
+        factors = [draws.w - draws.mix(line.fields(at, p=257)) for at, line in enumerate(program.lines)]
+        for counts in ([9999999999, 1], [256, 512], [0, 65], [1000, 9999999998]):
+            told = pow(factors[0], counts[0], 257) * pow(factors[1], counts[1], 257) % 257
+            self.assertEqual(program.closing(counts, draws), told)
+
+    def test_is_always_true(self):
+        self.assertTrue(Program([STOP]))
 
     def test_a_factor_0(self):
         coins = [0] * 16
