@@ -3,7 +3,10 @@
 from shownrun.errors import BadShape
 from shownrun.shapes import list_length, worths_of
 
-_EARLY = 16
+# How many coins are heard up to w, up to c38 and up to r36.
+EARLY = 16
+MIXERS = 54
+MIXING = 90
 
 
 class Draws:
@@ -11,7 +14,7 @@ class Draws:
 
     def __init__(self, coins, *, p):
         count = list_length(coins)
-        if count != _EARLY:
+        if count != EARLY:
             raise BadShape("coins", count)
         worths = worths_of(coins, p)
         self.B = worths[0]

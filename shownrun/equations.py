@@ -138,10 +138,15 @@ def _with_next(columns):
     return list(zip(rows, rows[1:] + rows[:1]))
 
 
+def row_worths(columns, draws, *, frame, closing):
+    """The list of the worths of all equations at each row, for 36 columns."""
+    return [equation_worths(here, behind, draws, frame=frame, closing=closing)
+            for here, behind in _with_next(columns)]
+
+
 def failing(columns, draws, *, frame, closing):
     """The ascending pairs (number, row) of the equations that do not hold, for 36 columns."""
-    return _failing_pairs([equation_worths(here, behind, draws, frame=frame, closing=closing)
-                           for here, behind in _with_next(columns)])
+    return _failing_pairs(row_worths(columns, draws, frame=frame, closing=closing))
 
 
 def failing_first(rows, *, frame):

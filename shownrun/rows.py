@@ -1,22 +1,22 @@
-"""The first columns of the rows of a run."""
+"""The first columns of the rows of a run, and whether rows are a run."""
 
 from shownrun.bags import Bag
-from shownrun.errors import BadShape, UnknownName
+from shownrun.equations import failing_first
+from shownrun.errors import BadShape, TooMany, UnknownName
 from shownrun.primes import ROWS
 from shownrun.runs import secrets_of
-from shownrun.shapes import list_length, row_fields, worths_of
+from shownrun.shapes import FIRST, list_length, row_fields, words_of
 
 COLUMNS = ("pc", "fp", "ap", "add", "mul", "set", "same", "jz", "call", "ret", "here", "stop",
            "a", "b", "c", "imm", "da", "dv", "xa", "xv", "ya", "yv", "t",
            "A1", "V1", "A2", "V2", "A3", "V3", "g1", "g2", "g3", "s1", "s2", "s3", "R")
-_FIRST = 29
 _TOUCHES = 16
 _SORTED = 23
 
 
 def _check_columns(columns):
     count = list_length(columns)
-    if count != _FIRST:
+    if count != FIRST:
         raise BadShape("columns", count)
     lengths = [list_length(column) for column in columns]
     if lengths[0] not in ROWS:
@@ -28,7 +28,7 @@ def _check_columns(columns):
 
 def _number_of(name):
     """The number of a first column with this name."""
-    names = list(COLUMNS[:_FIRST])
+    names = list(COLUMNS[:FIRST])
     if name not in names:
         raise UnknownName(name)
     return names.index(name)
@@ -39,7 +39,7 @@ class Rows:
 
     def __init__(self, columns, *, p):
         _check_columns(columns)
-        self.columns = tuple([worths_of(column, p) for column in columns])
+        self.columns = words_of(columns, p)
         self.p = p
 
     def row(self, at):
@@ -104,3 +104,45 @@ class Rows:
 
     def __repr__(self):
         return f"Rows({len(self.columns[0])} rows)"
+
+
+def _padding(run, count):
+    """The list of the touches of the stop rows: the gaps, and one pair again and again behind them."""
+    touched = [pair for pairs in run.touches for pair in pairs]
+    made = [(address, 0) for address in run.gaps]
+    again = min(touched) if touched else (3, 0)
+    return made + [again] * (count - len(made))
+
+
+def _row_worths(run, registers, touches):
+    """The worths of a row ahead of its sorted touches."""
+    pc, fp, ap = registers
+    (da, dv), (xa, xv), (ya, yv) = touches
+    fields = run.program.lines[pc].fields(pc, p=run.p)
+    return (pc, fp, ap) + fields[1:] + (da, dv, xa, xv, ya, yv, 1 - xv * yv)
+
+
+def filled(run, rows):
+    """The Rows of a run, filled with rows of its stop line."""
+    needs = run.needs
+    if needs is None or needs > rows:
+        raise TooMany("rows", rows)
+    missing = rows - len(run)
+    more = _padding(run, 3 * missing)
+    registers = list(run.registers) + [run.registers[-1]] * (missing - 1)
+    touches = list(run.touches) + list(zip(more[0::3], more[1::3], more[2::3]))
+    made = [_row_worths(run, triple, pairs) for triple, pairs in zip(registers, touches)]
+    ordered = sorted([pair for pairs in touches for pair in pairs])
+    joined = [one + other + another for one, other, another in zip(ordered[0::3], ordered[1::3], ordered[2::3])]
+    columns = list(zip(*made)) + list(zip(*joined))
+    return Rows(columns, p=run.p)
+
+
+def is_run(program, rows):
+    """Whether Rows are a run of a program."""
+    if failing_first(rows, frame=program.frame):
+        return False
+    if sorted(rows.touch_pairs()) != sorted(rows.sorted_touches()):
+        return False
+    fields = [line.fields(at, p=rows.p) for at, line in enumerate(program.lines)]
+    return all([row_fields(rows.row(at)) in fields for at in range(len(rows))])

@@ -2,25 +2,18 @@
 
 from shownrun.errors import BadShape
 from shownrun.primes import is_number
-from shownrun.shapes import list_length
+from shownrun.shapes import list_length, with_tuples
 
 _SIZES = (1, 2, 4, 8, 16, 32, 64, 128, 256, 512, 1024, 2048)
-
-
-def _with_tuples(value):
-    """Any value, with a tuple in the place of each list."""
-    if isinstance(value, (list, tuple)):
-        return tuple([_with_tuples(item) for item in value])
-    return value
 
 
 class Opening:
     """An index, the leaf there, and the path from the leaf to the root."""
 
     def __init__(self, at, leaf, path):
-        self.at = _with_tuples(at)
-        self.leaf = _with_tuples(leaf)
-        self.path = _with_tuples(path)
+        self.at = with_tuples(at)
+        self.leaf = with_tuples(leaf)
+        self.path = with_tuples(path)
 
     def __eq__(self, other):
         return (isinstance(other, Opening) and self.at == other.at and self.leaf == other.leaf

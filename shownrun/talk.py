@@ -1,18 +1,12 @@
 """The talk between a teller and a judge."""
 
-from shownrun.draws import coin_names
+from shownrun.draws import EARLY, MIXING, coin_names
 from shownrun.errors import BadPrime, BadShape, NotWaiting, UnknownName
 from shownrun.folds import fold_at
 from shownrun.mixed import Mixed
 from shownrun.places import Places
 from shownrun.primes import fits, is_number, power
-from shownrun.shapes import are_words, is_whole, is_word, list_length
-
-_EARLY = 16
-# How many coins are heard ahead of f0: the early coins, 38 and 36 mixers.
-_MIXING = 90
-_FIRST = 29
-_LATER = 7
+from shownrun.shapes import FIRST, LATER, are_counts, are_words, is_whole, is_word, list_length
 
 
 def _copied(value, p):
@@ -20,11 +14,6 @@ def _copied(value, p):
     if is_whole(value):
         return value % p
     return tuple([_copied(item, p) for item in value])
-
-
-def _are_counts(value, count, total):
-    """Whether any value is a list of just so many numbers from 0 on with this sum."""
-    return is_word(value, count) and all([number >= 0 for number in value]) and sum(value) == total
 
 
 class Talk:
@@ -51,8 +40,8 @@ class Talk:
         """How many coins are heard ahead of what is laid next."""
         step = len(self._laid)
         if step < 2:
-            return _EARLY * step
-        return min(_MIXING - 1 + step, _MIXING + 1 + self._places.layers)
+            return EARLY * step
+        return min(MIXING - 1 + step, MIXING + 1 + self._places.layers)
 
     def _next_laid(self):
         """What is laid next, or look if all is laid."""
@@ -99,10 +88,10 @@ class Talk:
         elif wanted == "layer":
             right = is_word(value, size >> (len(self._laid) - 1))
         elif wanted == "later":
-            right = are_words(value, _LATER, size)
+            right = are_words(value, LATER, size)
         else:
-            right = list_length(value) == 2 and are_words(value[0], _FIRST, size)
-            if right and not _are_counts(value[1], len(self.program), self.rows):
+            right = list_length(value) == 2 and are_words(value[0], FIRST, size)
+            if right and not are_counts(value[1], len(self.program), self.rows):
                 return "counts"
         return None if right else wanted
 
@@ -153,7 +142,7 @@ class Talk:
         at = number % half
         place = power(self._places.place(at), 1 << layer, self.p)
         folded = fold_at(self._worth(layer, at), self._worth(layer, at + half), place,
-                         self._heard[_MIXING + layer], self.p)
+                         self._heard[MIXING + layer], self.p)
         return folded == self._worth(layer + 1, at)
 
     def _worth(self, layer, at):
@@ -193,12 +182,12 @@ class Talk:
 
     def mixed(self):
         """The Mixed of what was laid and heard."""
-        if len(self._heard) < _MIXING:
+        if len(self._heard) < MIXING:
             raise NotWaiting("mixed")
         # It never changes behind r36, and making it anew for each look would read all words again.
         if self._mixed is None:
             words, counts = self._laid[0]
-            self._mixed = Mixed(self.program, counts, words + self._laid[1], self._heard[:_MIXING],
+            self._mixed = Mixed(self.program, counts, words + self._laid[1], self._heard[:MIXING],
                                 p=self.p, rows=self.rows)
         return self._mixed
 
