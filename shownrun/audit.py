@@ -109,8 +109,10 @@ class Audit:
         bags = self._early_bags(name)
         if bags is None:
             return False
-        lies = in_product_lot if name in ("z", "w") else in_merge_lot
-        return lies(bags[0], bags[1], coin, p=self._talk.p)
+        one, other = bags
+        if name in ("z", "w"):
+            return in_product_lot(one, other, coin, p=self._talk.p)
+        return in_merge_lot(one, other, coin, p=self._talk.p)
 
     def coin_lot(self, name):
         """The lot of a coin, an ascending tuple."""
@@ -127,8 +129,10 @@ class Audit:
         bags = self._early_bags(name)
         if bags is None:
             return ()
-        members = product_lot if name in ("z", "w") else merge_lot
-        return members(bags[0], bags[1], p=self._talk.p)
+        one, other = bags
+        if name in ("z", "w"):
+            return product_lot(one, other, p=self._talk.p)
+        return merge_lot(one, other, p=self._talk.p)
 
     def _mix_coins(self):
         """The coins r_1 to r_36."""

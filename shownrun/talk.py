@@ -36,9 +36,8 @@ class Talk:
         self._verdict = None
         self._mixed = None
 
-    def _due(self):
-        """How many coins are heard ahead of what is laid next."""
-        step = len(self._laid)
+    def _due(self, step):
+        """How many coins are heard ahead of what is laid at a step."""
         if step < 2:
             return EARLY * step
         return min(MIXING - 1 + step, MIXING + 1 + self._places.layers)
@@ -57,7 +56,7 @@ class Talk:
     def waits(self):
         if self._verdict is not None:
             return "done"
-        return "coin" if len(self._heard) < self._due() else self._next_laid()
+        return "coin" if len(self._heard) < self._due(len(self._laid)) else self._next_laid()
 
     @property
     def waits_for(self):
@@ -158,6 +157,17 @@ class Talk:
         if not is_number(step, 0, len(self._laid) - 1):
             raise UnknownName(step)
         return self._laid[step]
+
+    def done_deeds(self):
+        """The list of the deeds so far, in order, without one of a wrong shape."""
+        made, told = [], 0
+        for step, value in enumerate(self._laid):
+            due = self._due(step)
+            made.extend([("coin", coin) for coin in self._heard[told:due]])
+            made.append(("lay", value))
+            told = due
+        made.extend([("coin", coin) for coin in self._heard[told:]])
+        return made + [("look", place) for place in self._looked]
 
     def _do_deed(self, word, value):
         if word == "lay":
