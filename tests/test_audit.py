@@ -231,8 +231,9 @@ class LotTests(unittest.TestCase):
         worths, coins = list(range(3, 37, 2)), without_equations(4, 5, 257, r1=1, r2=9)
         words = [[0] * 64 for _ in range(36)]
         words[0][10:27], words[1][10:27] = [-n for n in worths], [1] * 17
-        lot = self.lot_of("r2", plain(SMALL, words, [1, 1, 1, 1], 257, 4), coins, 257)
-        self.assertEqual((lot, len(lot)), (tuple(worths), part_of("r2", 4)))
+        for coin in (9, 10, 35, 36):
+            lot = self.lot_of("r2", plain(SMALL, words, [1, 1, 1, 1], 257, 4), with_coins(coins, 4, r2=coin), 257)
+            self.assertEqual((lot, len(lot)), (tuple(worths), part_of("r2", 4)))
         # Likewise the even and the odd part of a layer, at b_i + 1 places.
         coins, places = only_first_word(4, 6, 257), Places(257, 4)
         for layer in range(3):
@@ -244,8 +245,10 @@ class LotTests(unittest.TestCase):
             word += [low - x * high for low, high, x in zip(even, odd, xs)]
             for ahead in reversed(range(layer)):
                 word = unfolded(places.layer(ahead), word, coins[90 + ahead], 5)
-            teller = plain(SMALL, far_words(257, 4, word), [1, 1, 1, 1], 257, 4)
-            self.assertEqual(self.lot_of("f" + str(layer), teller, coins, 257), tuple(worths[:count]))
+            teller, name = plain(SMALL, far_words(257, 4, word), [1, 1, 1, 1], 257, 4), "f" + str(layer)
+            for coin in (3, 4, worths[count - 1], worths[count - 1] + 1):
+                heard = with_coins(coins, 4, **{name: coin})
+                self.assertEqual(self.lot_of(name, teller, heard, 257), tuple(worths[:count]))
 
     def test_a_lot_hangs_only_on_what_was_there_before(self):
         """With other coins behind a coin, and other layers, its lot is the same; any member hides the fault."""

@@ -45,11 +45,9 @@ class LotPartTests(unittest.TestCase):
 class BoundTests(unittest.TestCase):
     def test_each_prime_with_each_t(self):
         for p, rows in FITTING:
-            for looks in (0, 1, 2, 17, 59, 60):
+            for looks in range(61):
                 told = told_bound(p, rows, looks)
-                for _ in range(2):
-                    self.assertEqual(bound(p=p, rows=rows, looks=looks), told)
-                self.assertIs(type(told), int)
+                self.assertEqual(bound(p=p, rows=rows, looks=looks), told)
                 # It is less than all rows of coins and looks only where it tells something.
                 self.assertGreater(told, p ** (91 + LAYERS[rows]) * (16 * rows - 4 * rows - 2) ** looks)
 

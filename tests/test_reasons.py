@@ -5,6 +5,7 @@ from shownrun.draws import coin_names
 from shownrun.errors import NotWaiting
 from shownrun.lines import Line, Program
 from shownrun.places import Places
+from shownrun.polys import Poly
 from shownrun.reasons import Found, Missed, Reason, Refused, Unlucky, holds, reason
 from shownrun.rows import Rows, is_run
 from shownrun.runs import run
@@ -283,6 +284,52 @@ class HoldsTests(unittest.TestCase):
                 self.check(case, Found(columns, lot[:1] + (True,) + lot[2:]))
             self.check(case, Missed(told_bad(case.talk)))
             self.check(case, Missed([]))
+
+    def test_the_prime_as_a_coefficient(self):
+        case = by_label("honest 0")[0]
+        made, tried = reason(case.talk), 0
+        for at, column in enumerate(made.columns):
+            for k, worth in enumerate(column):
+                if worth == 0:
+                    other = column[:k] + (case.p,) + column[k + 1:]
+                    self.check(case, Found(made.columns[:at] + (other,) + made.columns[at + 1:], made.lot))
+                    tried += 1
+        self.assertTrue(tried > 0)
+
+    def test_polynomials_of_the_greatest_degree(self):
+        """Without the mixers of equations, a word may be any of a degree below K that has the worths of a run."""
+        honest, coins = of_rows(SMALL, SMALL_ROWS), without_equations(4, 6, 257)
+        words = list(honest.words + honest(1, coins))
+        code = Places(257, 4).layer(0)
+        more = Poly([-1, 0, 0, 0, 1], p=257) * Poly([3, 0, 5, 7], p=257)
+        self.assertEqual(more.degree, 7)
+        for at in (0, 22, 28, 33):
+            changed = list(words)
+            changed[at] = [n + m for n, m in zip(words[at], code.word(more))]
+            case = Case("degree", plain(SMALL, changed, [1, 1, 1, 1], 257, 4), coins, ("found", ()), [1, 2])
+            made = reason(case.talk)
+            self.assertEqual((made.kind, made.lot, len(made.columns[at])), ("found", (), 8))
+            self.assertEqual(made.mended_rows(257, 4), SMALL_ROWS)
+            self.check(case, made, True)
+            longer = made.columns[at] + (1,)
+            self.check(case, Found(made.columns[:at] + (longer,) + made.columns[at + 1:], ()))
+
+    def test_faults_at_b_places(self):
+        """Where a word is not mixed, it may have faults at b places; at more the words are not together."""
+        honest, coins = of_rows(SMALL, SMALL_ROWS), without_equations(4, 6, 257, r5=0)
+        words = list(honest.words + honest(1, coins))
+        for count in (16, 17):
+            changed = list(words)
+            changed[4] = [n + (at < count) for at, n in enumerate(words[4])]
+            case = Case("faults", plain(SMALL, changed, [1, 1, 1, 1], 257, 4), coins, None, [1, 2])
+            made = reason(case.talk)
+            if count == 16:
+                self.assertEqual((made.kind, made.lot), ("found", tuple(range(16))))
+                self.check(case, made, True)
+                told = made
+            else:
+                self.assertEqual(made, Unlucky("r5", 0))
+                self.check(case, Found(told.columns, tuple(range(17))))
 
     def test_true_as_a_coefficient(self):
         """Where a coefficient is 1 or 0, True or False in its place makes the reason wrong."""

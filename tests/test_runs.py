@@ -4,6 +4,7 @@ from shownrun.errors import Broken, TooMany
 from shownrun.lines import Line, Program
 from shownrun.machine import Machine
 from shownrun.notes import Notes
+from shownrun.rows import filled, is_run
 from shownrun.runs import Run, lines_done, run, secrets_of
 from shownrun.scheme import compiled
 from shownrun.walking import walk
@@ -354,6 +355,10 @@ class CompiledTests(unittest.TestCase):
             self.assertEqual(made.used, told.used)
             self.assertEqual(secrets_of(program, made.registers, made.touches, p=p), secrets[:told.used])
             seen["done"] += 1
+            if made.needs is not None:
+                rows = filled(made, made.needs)
+                self.assertIs(is_run(program, rows), True)
+                self.assertEqual(walk(notes, rows.secrets(program), p=p), told)
             if notes.tells:
                 other = compiled(notes, [outputs[0] + 1] + outputs[1:])
                 with self.assertRaises(Broken):
